@@ -1,0 +1,1 @@
+"""Numbers found by asking: functions that nobody can look into, only ask."""
