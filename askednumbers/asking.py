@@ -8,23 +8,33 @@ from askednumbers.doubles import divided
 from askednumbers.doubles import finite
 from askednumbers.doubles import from_count
 from askednumbers.doubles import is_zero
+from askednumbers.doubles import less
 from askednumbers.doubles import minus
 from askednumbers.doubles import plus
 from askednumbers.doubles import same_number
 from askednumbers.doubles import sign_of
 from askednumbers.doubles import times
+from askednumbers.doubles import without_sign
 
+ZERO = 0x0000000000000000
 HALF = 0x3FE0000000000000
+# The golden section's 0.6180339887498949.
+GOLDEN = 0x3FE3C6EF372FE950
 TWO = 0x4000000000000000
 THREE = 0x4008000000000000
 FOUR = 0x4010000000000000
+SIX = 0x4018000000000000
+FIFTEEN = 0x402E000000000000
+
+# How deep pieces of an area may still be halved, seen from the first one.
+DEEPEST = 20
 
 
 class AnswerWanting(Exception):
     pass
 
 
-class CountRefused(Exception):
+class OutOfBounds(Exception):
     pass
 
 
@@ -46,12 +56,25 @@ class Questions:
         return finite(self.answers[place])
 
 
+class Piece:
+    # A piece keeps what was answered at its ends and its middle, so that nothing is asked again further down.
+    def __init__(self, a, m, b, at_a, at_m, at_b):
+        self.a = a
+        self.m = m
+        self.b = b
+        self.at_a = at_a
+        self.at_m = at_m
+        self.at_b = at_b
+        heights = plus(plus(at_a, times(FOUR, at_m)), at_b)
+        self.estimate = times(heights, divided(minus(b, a), SIX))
+
+
 def answer_of(questions, reckon):
     try:
         out = reckon(questions)
     except AnswerWanting:
         return []
-    except CountRefused:
+    except OutOfBounds:
         return [-2]
     except NotFinite:
         return [-4]
@@ -66,6 +89,11 @@ def told(answers, reckon):
     return [len(questions.asked)] + questions.asked + answer
 
 
+def check_most(most):
+    if most < 0 or most > 4000:
+        raise OutOfBounds()
+
+
 def middle(a, b):
     return plus(a, times(minus(b, a), HALF))
 
@@ -75,8 +103,7 @@ def root(a, b, most, answers):
 
 
 def root_out(questions, a, b, most):
-    if most < 0 or most > 4000:
-        raise CountRefused()
+    check_most(most)
     finite(a)
     finite(b)
     at_a = questions.ask(a)
@@ -113,7 +140,7 @@ def area(a, b, n, answers):
 
 def area_out(questions, a, b, n):
     if n < 2 or n > 65536 or n % 2 == 1:
-        raise CountRefused()
+        raise OutOfBounds()
     finite(a)
     finite(b)
     h = divided(minus(b, a), from_count(n))
@@ -123,3 +150,73 @@ def area_out(questions, a, b, n):
         s = plus(s, times(w, questions.ask(plus(a, times(from_count(i), h)))))
     s = plus(s, questions.ask(b))
     return [divided(times(s, h), THREE)]
+
+
+def rough(a, b, near, answers):
+    return told(answers, lambda questions: rough_out(questions, a, b, near))
+
+
+def rough_out(questions, a, b, near):
+    finite(a)
+    finite(b)
+    # Whether near is finite goes before whether it is above 0.
+    finite(near)
+    if not less(ZERO, near):
+        raise OutOfBounds()
+    m = middle(a, b)
+    at_a = questions.ask(a)
+    at_m = questions.ask(m)
+    at_b = questions.ask(b)
+    # The whole piece's sum stands ahead of the next questions: where it isn't finite, these aren't asked.
+    whole = Piece(a, m, b, at_a, at_m, at_b)
+    return [area_of_piece(questions, whole, near, DEEPEST)]
+
+
+def area_of_piece(questions, piece, near, deep):
+    l = middle(piece.a, piece.m)
+    r = middle(piece.m, piece.b)
+    at_l = questions.ask(l)
+    at_r = questions.ask(r)
+    left = Piece(piece.a, l, piece.m, piece.at_a, at_l, piece.at_m)
+    right = Piece(piece.m, r, piece.b, piece.at_m, at_r, piece.at_b)
+    both = plus(left.estimate, right.estimate)
+    change = minus(both, piece.estimate)
+    allowed = times(FIFTEEN, near)
+    if deep == 0 or not less(allowed, without_sign(change)):
+        return plus(both, divided(change, FIFTEEN))
+    nearer = times(near, HALF)
+    left_area = area_of_piece(questions, left, nearer, deep - 1)
+    right_area = area_of_piece(questions, right, nearer, deep - 1)
+    return plus(left_area, right_area)
+
+
+def least(a, b, most, answers):
+    return told(answers, lambda questions: least_out(questions, a, b, most))
+
+
+def least_out(questions, a, b, most):
+    check_most(most)
+    finite(a)
+    finite(b)
+    x = minus(b, golden_part(a, b))
+    y = plus(a, golden_part(a, b))
+    at_x = questions.ask(x)
+    at_y = questions.ask(y)
+    for turn in range(most):
+        if less(at_x, at_y):
+            b = y
+            y = x
+            at_y = at_x
+            x = minus(b, golden_part(a, b))
+            at_x = questions.ask(x)
+        else:
+            a = x
+            x = y
+            at_x = at_y
+            y = plus(a, golden_part(a, b))
+            at_y = questions.ask(y)
+    return [a, b]
+
+
+def golden_part(a, b):
+    return times(GOLDEN, minus(b, a))

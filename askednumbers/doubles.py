@@ -27,13 +27,26 @@ def sign_of(x):
     return x & SIGN_BIT
 
 
+def without_sign(x):
+    return x & (SIGN_BIT - 1)
+
+
 def is_zero(x):
-    return x & (SIGN_BIT - 1) == 0
+    return without_sign(x) == 0
 
 
 def same_number(x, y):
     # The two zeros are one number, though their bits differ.
     return x == y or (is_zero(x) and is_zero(y))
+
+
+def rank_of(x):
+    # Without the sign, finite doubles stand in the order of their bits; both zeros come to the one rank 0.
+    return -without_sign(x) if sign_of(x) else without_sign(x)
+
+
+def less(x, y):
+    return rank_of(x) < rank_of(y)
 
 
 def power_of(x):

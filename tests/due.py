@@ -86,6 +86,70 @@ def area_steps(a, b, n):
     return [sure(product / 3)]
 
 
+def rough_steps(a, b, near):
+    sure(a)
+    sure(b)
+    if sure(near) <= 0:
+        raise Refused(-2)
+    span = sure(b - a)
+    m = sure(a + sure(span * 0.5))
+    at_a = yield a
+    at_m = yield m
+    at_b = yield b
+    area = yield from piece_steps((a, m, b), (at_a, at_m, at_b), near, 20)
+    return [area]
+
+
+def estimate(places, heights):
+    middle_height = sure(4.0 * heights[1])
+    total = sure(heights[0] + middle_height)
+    total = sure(total + heights[2])
+    width = sure(places[2] - places[0])
+    return sure(total * sure(width / 6.0))
+
+
+def piece_steps(places, heights, e, d):
+    whole = estimate(places, heights)
+    a, m, b = places
+    l = sure(a + sure((m - a) * 0.5))
+    r = sure(m + sure((b - m) * 0.5))
+    at_l = yield l
+    at_r = yield r
+    left = (a, l, m), (heights[0], at_l, heights[1])
+    right = (m, r, b), (heights[1], at_r, heights[2])
+    halves = sure(estimate(*left) + estimate(*right))
+    difference = sure(halves - whole)
+    bound = sure(15.0 * e)
+    if d == 0 or abs(difference) <= bound:
+        return sure(halves + difference / 15.0)
+    first = yield from piece_steps(*left, e * 0.5, d - 1)
+    second = yield from piece_steps(*right, e * 0.5, d - 1)
+    return sure(first + second)
+
+
+def least_steps(a, b, most):
+    if most not in range(0, 4001):
+        raise Refused(-2)
+    sure(a)
+    sure(b)
+    c = 0.6180339887498949
+    x = sure(b - sure(c * sure(b - a)))
+    y = sure(a + sure(c * sure(b - a)))
+    low = yield x
+    high = yield y
+    while most > 0:
+        most -= 1
+        if low < high:
+            b, y, high = y, x, low
+            x = sure(b - sure(c * sure(b - a)))
+            low = yield x
+        else:
+            a, x, low = x, y, high
+            y = sure(a + sure(c * sure(b - a)))
+            high = yield y
+    return [a, b]
+
+
 def drive(steps, answers):
     """The list that a call must give back, by its generator over floats."""
     asked = []
@@ -109,6 +173,14 @@ def root_due(a, b, most, answers):
 
 def area_due(a, b, n, answers):
     return drive(area_steps(number(a), number(b), n), answers)
+
+
+def rough_due(a, b, near, answers):
+    return drive(rough_steps(number(a), number(b), number(near)), answers)
+
+
+def least_due(a, b, most, answers):
+    return drive(least_steps(number(a), number(b), most), answers)
 
 
 def answers_by(steps, f, most_answers=3000):
@@ -149,19 +221,37 @@ def drawn(seed):
 
 
 class CallCase(unittest.TestCase):
-    """Cases of one call; a class below it names the call, and the same by floats, as call and call_due."""
+    """Cases of one call; a class below it names the call as call, the same by floats as call_due and steps."""
+
+    def assertListEqual(self, first, second, msg=None):
+        """Tells the first place that differs alone: unittest's own account of two long lists takes minutes."""
+        if first == second:
+            return
+        shorter = min(len(first), len(second))
+        differing = [place for place in range(shorter) if first[place] != second[place]] + [shorter]
+        here = slice(differing[0], differing[0] + 3)
+        told = f"of {len(first)} and {len(second)}, from {differing[0]} on: {first[here]} and {second[here]}"
+        self.fail(self._formatMessage(msg, told))
 
     def gives(self, a, b, count, answers, questions, answer):
-        """questions and the doubles of the answer are floats; the answer is a refusal, None (wanting) or a list."""
+        """All but counts are floats; the answer is a refusal, None (wanting) or a list."""
         handed = all_bits(answers)
         due = [len(questions)] + all_bits(questions)
         if isinstance(answer, list):
             due = due + [len(questions)] + all_bits(answer)
         elif answer is not None:
             due = due + [answer]
-        self.assertEqual(self.call(bits(a), bits(b), count, handed), due)
-        self.assertEqual(self.call_due(bits(a), bits(b), count, handed), due)
+        self.assertEqual(self.given(a, b, count, handed), due)
         self.assertEqual(handed, all_bits(answers))
+
+    def given(self, a, b, count, answers):
+        third = bits(count) if isinstance(count, float) else count
+        given = self.call(bits(a), bits(b), third, answers)
+        self.assertEqual(given, self.call_due(bits(a), bits(b), third, answers))
+        return given
+
+    def of_function(self, a, b, count, f):
+        return self.given(a, b, count, answers_by(self.steps(a, b, count), f))
 
     def gives_whole_numbers(self, a, b, count, answers):
         kept = list(answers)

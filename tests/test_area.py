@@ -3,18 +3,13 @@ import unittest
 
 from askednumbers.asking import area
 from due import CallCase, FINEST, GREATEST, NOT_FINITE
-from due import all_bits, answers_by, area_due, area_steps, bits, drawn, number, some_double
+from due import all_bits, area_due, area_steps, bits, drawn, number, some_double
 
 
 class AreaCase(CallCase):
     call = staticmethod(area)
     call_due = staticmethod(area_due)
-
-    def of_function(self, a, b, n, f):
-        answers = answers_by(area_steps(a, b, n), f)
-        given = area(bits(a), bits(b), n, answers)
-        self.assertEqual(given, area_due(bits(a), bits(b), n, answers))
-        return given
+    steps = staticmethod(area_steps)
 
 
 class Sums(AreaCase):

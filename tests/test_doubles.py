@@ -164,6 +164,37 @@ class Operations(unittest.TestCase):
                     self.like_floats(name, x, y)
 
 
+class Comparing(unittest.TestCase):
+    def compared(self, x, y):
+        self.assertIs(doubles.less(x, y), number(x) < number(y), (hex(x), hex(y)))
+
+    def test_both_signs_denormals_and_zeros(self):
+        above = [FINEST, 2 * FINEST, LEAST_NORMAL - FINEST, LEAST_NORMAL, 0.5, 1.0, math.nextafter(1.0, 2.0), 2.0,
+                 1e300, GREATEST]
+        rising = [-one for one in reversed(above)] + [0.0] + above
+        for i, x in enumerate(rising):
+            for k, y in enumerate(rising):
+                self.assertIs(doubles.less(bits(x), bits(y)), i < k, (x, y))
+
+    def test_the_zeros_are_one_number(self):
+        for x in [0.0, -0.0]:
+            for y in [0.0, -0.0]:
+                self.assertIs(doubles.less(bits(x), bits(y)), False)
+            self.assertIs(doubles.less(bits(x), bits(FINEST)), True)
+            self.assertIs(doubles.less(bits(FINEST), bits(x)), False)
+            self.assertIs(doubles.less(bits(x), bits(-FINEST)), False)
+            self.assertIs(doubles.less(bits(-FINEST), bits(x)), True)
+
+    def test_drawn_at_random(self):
+        source = drawn(5)
+        for turn in range(20000):
+            x = some_double(source)
+            y = some_double(source)
+            for other in [y, x, x ^ 1, x ^ (1 << 63), y ^ (1 << 63)]:
+                self.compared(x, other)
+                self.compared(other, x)
+
+
 class Parts(unittest.TestCase):
     def test_finite(self):
         for pattern in NOT_FINITE:
@@ -183,6 +214,11 @@ class Parts(unittest.TestCase):
         self.assertTrue(doubles.is_zero(bits(-0.0)))
         self.assertFalse(doubles.is_zero(bits(FINEST)))
         self.assertFalse(doubles.is_zero(bits(-FINEST)))
+
+    def test_without_sign(self):
+        for value in [0.0, 1.5, FINEST, LEAST_NORMAL, GREATEST]:
+            self.assertEqual(doubles.without_sign(bits(value)), bits(value))
+            self.assertEqual(doubles.without_sign(bits(-value)), bits(value))
 
     def test_from_count(self):
         for count in list(range(300)) + [4095, 4096, 32767, 65535, 65536]:

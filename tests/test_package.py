@@ -83,6 +83,8 @@ class Interface(unittest.TestCase):
     def test_names_and_arguments(self):
         self.assertEqual(list(inspect.signature(asking.root).parameters), ["a", "b", "most", "answers"])
         self.assertEqual(list(inspect.signature(asking.area).parameters), ["a", "b", "n", "answers"])
+        self.assertEqual(list(inspect.signature(asking.rough).parameters), ["a", "b", "near", "answers"])
+        self.assertEqual(list(inspect.signature(asking.least).parameters), ["a", "b", "most", "answers"])
 
 
 if __name__ == "__main__":

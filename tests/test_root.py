@@ -8,6 +8,7 @@ from due import all_bits, answers_by, bits, drawn, number, root_due, root_steps,
 class RootCase(CallCase):
     call = staticmethod(root)
     call_due = staticmethod(root_due)
+    steps = staticmethod(root_steps)
 
 
 class Ends(RootCase):
