@@ -45,12 +45,22 @@ class OneSign(Exception):
 class Questions:
     def __init__(self, answers):
         self.answers = answers
+        # Questions are counted by themselves: one of two numbers is still one question.
+        self.count = 0
         self.asked = []
 
-    def ask(self, question):
-        place = len(self.asked)
+    def ask(self, x):
+        self.asked.append(x)
+        return self.answered()
+
+    def ask_two(self, x, y):
+        self.asked.extend([x, y])
+        return self.answered()
+
+    def answered(self):
+        place = self.count
         # The question counts as asked even where its answer is wanting or refused.
-        self.asked.append(question)
+        self.count = place + 1
         if place == len(self.answers):
             raise AnswerWanting()
         return finite(self.answers[place])
@@ -80,17 +90,17 @@ def answer_of(questions, reckon):
         return [-4]
     except OneSign:
         return [-5]
-    return [len(questions.asked)] + out
+    return [questions.count] + out
 
 
 def told(answers, reckon):
     questions = Questions(answers)
     answer = answer_of(questions, reckon)
-    return [len(questions.asked)] + questions.asked + answer
+    return [questions.count] + questions.asked + answer
 
 
-def check_most(most):
-    if most < 0 or most > 4000:
+def check_count(count, lowest, highest):
+    if count < lowest or count > highest:
         raise OutOfBounds()
 
 
@@ -103,7 +113,7 @@ def root(a, b, most, answers):
 
 
 def root_out(questions, a, b, most):
-    check_most(most)
+    check_count(most, 0, 4000)
     finite(a)
     finite(b)
     at_a = questions.ask(a)
@@ -139,7 +149,8 @@ def area(a, b, n, answers):
 
 
 def area_out(questions, a, b, n):
-    if n < 2 or n > 65536 or n % 2 == 1:
+    check_count(n, 2, 65536)
+    if n % 2 == 1:
         raise OutOfBounds()
     finite(a)
     finite(b)
@@ -195,7 +206,7 @@ def least(a, b, most, answers):
 
 
 def least_out(questions, a, b, most):
-    check_most(most)
+    check_count(most, 0, 4000)
     finite(a)
     finite(b)
     x = minus(b, golden_part(a, b))
@@ -220,3 +231,51 @@ def least_out(questions, a, b, most):
 
 def golden_part(a, b):
     return times(GOLDEN, minus(b, a))
+
+
+def slope(x, h, answers):
+    return told(answers, lambda questions: slope_out(questions, x, h))
+
+
+def slope_out(questions, x, h):
+    finite(x)
+    # Whether x and h are finite goes before whether h is 0.
+    finite(h)
+    if is_zero(h):
+        raise OutOfBounds()
+    first = questions.ask(plus(x, h))
+    second = questions.ask(minus(x, h))
+    k = times(h, HALF)
+    third = questions.ask(plus(x, k))
+    fourth = questions.ask(minus(x, k))
+    wide = divided(minus(first, second), plus(h, h))
+    narrow = divided(minus(third, fourth), h)
+    return [plus(narrow, divided(minus(narrow, wide), THREE))]
+
+
+def walk(t, y, h, n, answers):
+    return told(answers, lambda questions: walk_out(questions, t, y, h, n))
+
+
+def walk_out(questions, t, y, h, n):
+    check_count(n, 0, 65536)
+    finite(t)
+    finite(y)
+    finite(h)
+    p = times(h, HALF)
+    q = divided(h, SIX)
+    out = [y]
+    for i in range(n):
+        # From i each time: adding h again and again would round otherwise.
+        u = plus(t, times(from_count(i), h))
+        y = plus(y, times(q, slopes_within(questions, u, y, h, p)))
+        out.append(y)
+    return out
+
+
+def slopes_within(questions, u, y, h, p):
+    k1 = questions.ask_two(u, y)
+    k2 = questions.ask_two(plus(u, p), plus(y, times(p, k1)))
+    k3 = questions.ask_two(plus(u, p), plus(y, times(p, k2)))
+    k4 = questions.ask_two(plus(u, h), plus(y, times(h, k3)))
+    return plus(plus(plus(k1, times(TWO, k2)), times(TWO, k3)), k4)

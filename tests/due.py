@@ -32,6 +32,11 @@ def all_bits(numbers):
     return [bits(one) for one in numbers]
 
 
+def by_bits(values):
+    """Floats become their bits; counts are whole numbers and stay."""
+    return [bits(value) if isinstance(value, float) else value for value in values]
+
+
 def sure(value):
     if not math.isfinite(value):
         raise Refused(-4)
@@ -150,6 +155,67 @@ def least_steps(a, b, most):
     return [a, b]
 
 
+def slope_steps(x, h):
+    sure(x)
+    if sure(h) == 0:
+        raise Refused(-2)
+    right = yield sure(x + h)
+    left = yield sure(x - h)
+    k = h / 2.0
+    near_right = yield sure(x + k)
+    near_left = yield sure(x - k)
+    rise = sure(right - left)
+    coarse = sure(rise / sure(2.0 * h))
+    rise = sure(near_right - near_left)
+    fine = sure(rise / h)
+    difference = sure(fine - coarse)
+    return [sure(fine + difference / 3.0)]
+
+
+def walk_steps(t, y, h, n):
+    if n not in range(0, 65537):
+        raise Refused(-2)
+    sure(t)
+    sure(y)
+    sure(h)
+    half, sixth = h / 2.0, h / 6.0
+    out = [y]
+    while len(out) <= n:
+        ahead = sure((len(out) - 1.0) * h)
+        u = sure(t + ahead)
+        slopes = [(yield u, y)]
+        for part in [half, half, h]:
+            place = sure(u + part)
+            rise = sure(part * slopes[-1])
+            slopes.append((yield place, sure(y + rise)))
+        total = slopes[0]
+        for slope, weight in zip(slopes[1:], [2.0, 2.0, 1.0]):
+            weighed = sure(weight * slope)
+            total = sure(total + weighed)
+        rise = sure(sixth * total)
+        y = sure(y + rise)
+        out.append(y)
+    return out
+
+
+def flat(questions):
+    """A question of two numbers is a pair of floats, any other a float by itself."""
+    numbers = []
+    for question in questions:
+        numbers.extend(question if isinstance(question, tuple) else [question])
+    return numbers
+
+
+def listed(questions, answer):
+    """What is given back, by questions and answer over floats: a refusal, None (wanting) or a list."""
+    due = [len(questions)] + all_bits(flat(questions))
+    if answer is None:
+        return due
+    if isinstance(answer, list):
+        return due + [len(questions)] + all_bits(answer)
+    return due + [answer]
+
+
 def drive(steps, answers):
     """The list that a call must give back, by its generator over floats."""
     asked = []
@@ -157,14 +223,14 @@ def drive(steps, answers):
     try:
         question = next(steps)
         while True:
-            asked.append(bits(question))
+            asked.append(question)
             if not left:
-                return [len(asked)] + asked
+                return listed(asked, None)
             question = steps.send(sure(number(left.pop(0))))
     except StopIteration as end:
-        return [len(asked)] + asked + [len(asked)] + all_bits(end.value)
+        return listed(asked, end.value)
     except Refused as refusal:
-        return [len(asked)] + asked + [refusal.args[0]]
+        return listed(asked, refusal.args[0])
 
 
 def root_due(a, b, most, answers):
@@ -183,13 +249,21 @@ def least_due(a, b, most, answers):
     return drive(least_steps(number(a), number(b), most), answers)
 
 
+def slope_due(x, h, answers):
+    return drive(slope_steps(number(x), number(h)), answers)
+
+
+def walk_due(t, y, h, n, answers):
+    return drive(walk_steps(number(t), number(y), number(h), n), answers)
+
+
 def answers_by(steps, f, most_answers=3000):
     """The answers that f, over floats, gives to the questions of a generator."""
     answers = []
     try:
         question = next(steps)
         while len(answers) < most_answers:
-            value = f(question)
+            value = f(*flat([question]))
             answers.append(bits(value))
             question = steps.send(sure(value))
     except (StopIteration, Refused):
@@ -233,40 +307,42 @@ class CallCase(unittest.TestCase):
         told = f"of {len(first)} and {len(second)}, from {differing[0]} on: {first[here]} and {second[here]}"
         self.fail(self._formatMessage(msg, told))
 
-    def gives(self, a, b, count, answers, questions, answer):
-        """All but counts are floats; the answer is a refusal, None (wanting) or a list."""
+    def gives(self, *row):
+        """A row: what is handed in, the answers, the questions, the answer (see listed); all but counts are floats."""
+        *handed_in, answers, questions, answer = row
         handed = all_bits(answers)
-        due = [len(questions)] + all_bits(questions)
-        if isinstance(answer, list):
-            due = due + [len(questions)] + all_bits(answer)
-        elif answer is not None:
-            due = due + [answer]
-        self.assertEqual(self.given(a, b, count, handed), due)
+        self.assertEqual(self.given(*handed_in, handed), listed(questions, answer))
         self.assertEqual(handed, all_bits(answers))
 
-    def given(self, a, b, count, answers):
-        third = bits(count) if isinstance(count, float) else count
-        given = self.call(bits(a), bits(b), third, answers)
-        self.assertEqual(given, self.call_due(bits(a), bits(b), third, answers))
+    def given(self, *row):
+        *handed_in, answers = row
+        told = by_bits(handed_in)
+        given = self.call(*told, answers)
+        self.assertEqual(given, self.call_due(*told, answers))
         return given
 
-    def of_function(self, a, b, count, f):
-        return self.given(a, b, count, answers_by(self.steps(a, b, count), f))
+    def of_function(self, *row):
+        *handed_in, f = row
+        return self.given(*handed_in, answers_by(self.steps(*handed_in), f))
 
-    def gives_whole_numbers(self, a, b, count, answers):
+    def gives_whole_numbers(self, *row):
+        *handed_in, answers = row
         kept = list(answers)
-        given = self.call(bits(a), bits(b), count, answers)
+        given = self.call(*by_bits(handed_in), answers)
         self.assertIs(type(given), list)
         self.assertTrue(all(type(one) is int for one in given))
         self.assertIsNot(given, answers)
         self.assertEqual(answers, kept)
 
-    def gives_anew(self, a, b, count, answers):
-        first = self.call(bits(a), bits(b), count, answers)
+    def gives_anew(self, *row):
+        *handed_in, answers = row
+        told = by_bits(handed_in)
+        others = by_bits([one + 5.0 if isinstance(one, float) else one for one in handed_in])
+        first = self.call(*told, answers)
         first_copy = list(first)
-        self.call(bits(5.0), bits(6.0), count, [])
-        second = self.call(bits(a), bits(b), count, answers)
+        self.call(*others, [])
+        second = self.call(*told, answers)
         self.assertEqual(second, first_copy)
         second.append(7)
         self.assertEqual(first, first_copy)
-        self.assertEqual(self.call(bits(a), bits(b), count, answers), first_copy)
+        self.assertEqual(self.call(*told, answers), first_copy)

@@ -85,6 +85,8 @@ class Interface(unittest.TestCase):
         self.assertEqual(list(inspect.signature(asking.area).parameters), ["a", "b", "n", "answers"])
         self.assertEqual(list(inspect.signature(asking.rough).parameters), ["a", "b", "near", "answers"])
         self.assertEqual(list(inspect.signature(asking.least).parameters), ["a", "b", "most", "answers"])
+        self.assertEqual(list(inspect.signature(asking.slope).parameters), ["x", "h", "answers"])
+        self.assertEqual(list(inspect.signature(asking.walk).parameters), ["t", "y", "h", "n", "answers"])
 
 
 if __name__ == "__main__":
