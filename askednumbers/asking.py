@@ -279,3 +279,19 @@ def slopes_within(questions, u, y, h, p):
     k3 = questions.ask_two(plus(u, p), plus(y, times(p, k2)))
     k4 = questions.ask_two(plus(u, h), plus(y, times(h, k3)))
     return plus(plus(plus(k1, times(TWO, k2)), times(TWO, k3)), k4)
+
+
+def table(a, b, n, answers):
+    return told(answers, lambda questions: table_out(questions, a, b, n))
+
+
+def table_out(questions, a, b, n):
+    check_count(n, 1, 65536)
+    finite(a)
+    # b must be finite even where n is 1 and nothing is made of it.
+    finite(b)
+    if n == 1:
+        return [questions.ask(a)]
+    h = divided(minus(b, a), from_count(n - 1))
+    # The first place is a sum too: where a is -0 it may come to 0.
+    return [questions.ask(plus(a, times(from_count(i), h))) for i in range(n)]

@@ -198,6 +198,22 @@ def walk_steps(t, y, h, n):
     return out
 
 
+def table_steps(a, b, n):
+    if n not in range(1, 65537):
+        raise Refused(-2)
+    sure(a)
+    sure(b)
+    if n == 1:
+        return [(yield a)]
+    span = sure(b - a)
+    h = sure(span / (n - 1.0))
+    out = []
+    while len(out) < n:
+        ahead = sure(float(len(out)) * h)
+        out.append((yield sure(a + ahead)))
+    return out
+
+
 def flat(questions):
     """A question of two numbers is a pair of floats, any other a float by itself."""
     numbers = []
@@ -257,6 +273,10 @@ def walk_due(t, y, h, n, answers):
     return drive(walk_steps(number(t), number(y), number(h), n), answers)
 
 
+def table_due(a, b, n, answers):
+    return drive(table_steps(number(a), number(b), n), answers)
+
+
 def answers_by(steps, f, most_answers=3000):
     """The answers that f, over floats, gives to the questions of a generator."""
     answers = []
@@ -294,9 +314,7 @@ def drawn(seed):
     return random.Random(seed)
 
 
-class CallCase(unittest.TestCase):
-    """Cases of one call; a class below it names the call as call, the same by floats as call_due and steps."""
-
+class ListCase(unittest.TestCase):
     def assertListEqual(self, first, second, msg=None):
         """Tells the first place that differs alone: unittest's own account of two long lists takes minutes."""
         if first == second:
@@ -306,6 +324,10 @@ class CallCase(unittest.TestCase):
         here = slice(differing[0], differing[0] + 3)
         told = f"of {len(first)} and {len(second)}, from {differing[0]} on: {first[here]} and {second[here]}"
         self.fail(self._formatMessage(msg, told))
+
+
+class CallCase(ListCase):
+    """Cases of one call; a class below it names the call as call, the same by floats as call_due and steps."""
 
     def gives(self, *row):
         """A row: what is handed in, the answers, the questions, the answer (see listed); all but counts are floats."""

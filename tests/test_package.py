@@ -4,6 +4,7 @@ import ast
 import builtins
 import inspect
 import pathlib
+import re
 import unittest
 
 from askednumbers import asking
@@ -14,6 +15,12 @@ ALLOWED_BUILTINS = """
     len range enumerate zip min max sum abs sorted reversed int str bool list tuple dict set frozenset isinstance
     ord repr any all divmod Exception ValueError TypeError KeyError IndexError LookupError ZeroDivisionError
     ArithmeticError OverflowError RuntimeError NotImplementedError AttributeError StopIteration
+""".split()
+
+REFUSED_WORDS = """
+    type typing typing_extensions enum Enum IntEnum StrEnum Flag IntFlag Generic Protocol ABC ABCMeta namedtuple
+    NamedTuple TypedDict TYPE_CHECKING abstractmethod register mro elements open input version_info with_traceback
+    add_note
 """.split()
 
 REFUSED_NODES = (
@@ -67,6 +74,12 @@ class Language(unittest.TestCase):
             if isinstance(node, ast.Constant):
                 self.assertIn(type(node.value), (int, str, bool, type(None)), (name, node.lineno))
 
+    def test_words(self):
+        for file in files():
+            text = file.read_text()
+            self.assertEqual(set(re.findall(r"\w+", text)) & set(REFUSED_WORDS), set(), file)
+            self.assertIsNone(re.search("dataclass|overload|contextmanager", text), file)
+
     def test_names(self):
         for name, node in nodes():
             if isinstance(node, ast.Name):
@@ -87,6 +100,7 @@ class Interface(unittest.TestCase):
         self.assertEqual(list(inspect.signature(asking.least).parameters), ["a", "b", "most", "answers"])
         self.assertEqual(list(inspect.signature(asking.slope).parameters), ["x", "h", "answers"])
         self.assertEqual(list(inspect.signature(asking.walk).parameters), ["t", "y", "h", "n", "answers"])
+        self.assertEqual(list(inspect.signature(asking.table).parameters), ["a", "b", "n", "answers"])
 
 
 if __name__ == "__main__":
